@@ -1,9 +1,11 @@
-"""Answers calls on one object: its program, and what the rungs above it tell."""
+"""Answers calls on one object: its program, what the rungs and places asked alone tell, and its changes."""
 
+from coarserflows.alone import ask_alone
 from coarserflows.bothways import class_sizes, last_classes, members
+from coarserflows.changes import changed_program, kept_gone_and_new
 from coarserflows.programs import NODE_PLACE, Program
-from coarserflows.refusals import NoNode, NoProgram, NoRung, UnknownCall
-from coarserflows.tables import RUNGS, arrows_of, how_many_facts, sorts_at, table_of_rung
+from coarserflows.refusals import NoCall, NoNode, NoProgram, NoRung, NothingKept, UnknownCall
+from coarserflows.tables import RUNGS, arrows_of, functions_at, how_many_facts, sorts_at, table_of_rung
 
 PROGRAM_CALL = 0
 SHOW_CALL = 1
@@ -12,11 +14,20 @@ ARROWS_CALL = 3
 COUNTS_CALL = 4
 CLASS_CALL = 5
 CLASSES_CALL = 6
+ASK_CALL = 7
+FUNS_CALL = 8
+LOOKED_CALL = 9
+CHANGE_CALL = 10
+UNDO_CALL = 11
 SIZE_CALL = 12
 
 NO_PROGRAM = -1
 NO_RUNG = -2
 NO_NODE = -3
+NOTHING_KEPT = -4
+NO_CALL = -5
+
+MOST_KEPT = 8
 
 
 class Row:
@@ -78,6 +89,40 @@ class Ladder:
         sizes = class_sizes(self.program, last_classes(self.program))
         return [len(sizes), max(sizes)]
 
+    def tell_asked(self, label):
+        self.check_node(label)
+        place = (NODE_PLACE, label)
+        asked = ask_alone(self.program, place)
+        return counted_twos(sorts_at(self.program, asked.found, place)) + [len(asked.looked_at)]
+
+    def tell_funs(self, label):
+        self.check_node(label)
+        if not self.program.is_call(label):
+            raise NoCall()
+        place = self.program.first_part_of(label)
+        asked = ask_alone(self.program, place)
+        funs = functions_at(self.program, asked.found, place)
+        return [len(funs)] + funs + [len(asked.looked_at)]
+
+    def tell_looked(self, label):
+        self.check_node(label)
+        asked = ask_alone(self.program, (NODE_PLACE, label))
+        return counted_twos([place for place in self.program.places if place in asked.looked_at])
+
+    def change_program(self, label, text):
+        self.check_node(label)
+        before = self.program
+        self.program = changed_program(before, label, text)
+        self.kept = ([before] + self.kept)[:MOST_KEPT]
+        return [len(self.program.nodes)] + kept_gone_and_new(before, self.program, label)
+
+    def undo_change(self):
+        if not self.kept:
+            raise NothingKept()
+        self.program = self.kept[0]
+        self.kept = self.kept[1:]
+        return [len(self.program.nodes)]
+
     def tell_size(self):
         program = self.program
         return [len(program.nodes), len(program.places), len(program.sorts), len(self.kept)]
@@ -117,6 +162,17 @@ def carry_out(ladder, row):
         return ladder.tell_class(row.take_number())
     if call == CLASSES_CALL:
         return ladder.tell_classes()
+    if call == ASK_CALL:
+        return ladder.tell_asked(row.take_number())
+    if call == FUNS_CALL:
+        return ladder.tell_funs(row.take_number())
+    if call == LOOKED_CALL:
+        return ladder.tell_looked(row.take_number())
+    if call == CHANGE_CALL:
+        label = row.take_number()
+        return ladder.change_program(label, row.take_text())
+    if call == UNDO_CALL:
+        return ladder.undo_change()
     if call == SIZE_CALL:
         return ladder.tell_size()
     raise UnknownCall(f"there is no call {call}")
@@ -131,6 +187,10 @@ def answer_or_refusal(ladder, row):
         return [NO_RUNG]
     except NoNode:
         return [NO_NODE]
+    except NothingKept:
+        return [NOTHING_KEPT]
+    except NoCall:
+        return [NO_CALL]
 
 
 def answers(calls):

@@ -8,10 +8,15 @@ from coarserflows.programs import FUNCTION_KIND, KIND_OF_MAKER, NUMBERS, PAIR_KI
 from coarserflows.reader import CALL, GIVEN, NUMBER, USED_NAME
 
 
-def own_table(program):
+def empty_table(program):
     table = {}
     for place in program.places:
         table[place] = {}
+    return table
+
+
+def own_table(program):
+    table = empty_table(program)
     for label, node in enumerate(program.nodes):
         if node.form in KIND_OF_MAKER:
             table[(NODE_PLACE, label)][(KIND_OF_MAKER[node.form], label)] = True

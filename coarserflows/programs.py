@@ -27,8 +27,14 @@ class Program:
     def has_node(self, label):
         return 0 <= label < len(self.nodes)
 
+    def is_call(self, label):
+        return self.nodes[label].form == CALL
+
     def calls_within(self):
         return labels_of(self.nodes, (CALL,))
+
+    def first_part_of(self, label):
+        return (NODE_PLACE, self.nodes[label].parts[0])
 
 
 def labels_of(nodes, forms):

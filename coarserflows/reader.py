@@ -27,12 +27,16 @@ class Node:
         self.word = word
         self.parent = None
         self.parts = []
+        # Where in the text it begins, and where what stands behind it does.
+        self.begin = 0
+        self.end = 0
 
 
 class Reading:
     def __init__(self, words):
         self.words = words
         self.at = 0
+        self.signs_taken = 0
         self.nodes = []
         # The labels of the nodes whose brackets are not shut yet, the innermost one last.
         self.around = []
@@ -45,6 +49,7 @@ class Reading:
     def take(self):
         word = self.peek()
         self.at = min(self.at + 1, len(self.words))
+        self.signs_taken += len(word)
         return word
 
     def pass_over(self, word):
@@ -55,7 +60,10 @@ class Reading:
         # Looked at here, so that a text that nests very deep is given up early.
         if len(self.nodes) == MOST_NODES or len(self.around) > MOST_AROUND:
             raise NoProgram()
+        begin = self.signs_taken
         node = self.read_head()
+        node.begin = begin
+        node.end = self.signs_taken
         label = len(self.nodes)
         if self.around:
             node.parent = self.around[-1]
@@ -93,6 +101,7 @@ class Reading:
         inner = self.nodes[self.around[-1]]
         if len(inner.parts) == PARTS[inner.form]:
             self.pass_over(")")
+            inner.end = self.signs_taken
             self.around.pop()
             return
         # A call's function follows its bracket at once.

@@ -13,5 +13,13 @@ class NoNode(Exception):
     pass
 
 
+class NothingKept(Exception):
+    pass
+
+
+class NoCall(Exception):
+    pass
+
+
 class UnknownCall(ValueError):
     pass

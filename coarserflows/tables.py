@@ -2,7 +2,7 @@
 
 from coarserflows.bothways import last_classes, table_of_classes
 from coarserflows.needs import own_table, ways_of
-from coarserflows.programs import FUNCTION_KIND, NODE_PLACE
+from coarserflows.programs import FUNCTION_KIND
 
 EVERYTHING = 0
 BY_KINDS = 1
@@ -65,11 +65,13 @@ def how_many_facts(table):
     return sum([len(table[place]) for place in table])
 
 
+def functions_at(program, table, place):
+    return [sort[1] for sort in sorts_at(program, table, place) if sort[0] == FUNCTION_KIND]
+
+
 def arrows_of(program, table):
     arrows = []
     for call in program.calls_within():
-        function = (NODE_PLACE, program.nodes[call].parts[0])
-        for sort in sorts_at(program, table, function):
-            if sort[0] == FUNCTION_KIND:
-                arrows.append((call, sort[1]))
+        for fun in functions_at(program, table, program.first_part_of(call)):
+            arrows.append((call, fun))
     return arrows

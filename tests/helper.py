@@ -41,8 +41,34 @@ def classes():
     return [6]
 
 
+def ask(label):
+    return [7, label]
+
+
+def funs(label):
+    return [8, label]
+
+
+def looked(label):
+    return [9, label]
+
+
+def change(label, text):
+    row = as_bytes(text)
+    return [10, label, len(row)] + row
+
+
+def undo():
+    return [11]
+
+
 def size():
     return [12]
+
+
+def shown(text):
+    """What show answers of a program's text."""
+    return [len(text)] + as_bytes(text)
 
 
 def in_line(*calls):
